@@ -4,6 +4,9 @@ BEGINS = 0
 SECRET = 1
 FEED = 2
 ENDS = 3
+HELD = 4
+SPELL = 5
+ALL = 6
 
 STAR = 42
 MOST_SECRETS = 5
@@ -22,6 +25,10 @@ class NoSuchCall(ValueError):
 
 def is_secret(row):
     return 1 <= len(row) <= MOST_SECRET_BYTES and STAR not in row
+
+
+def may_be_spelled(which, row):
+    return 1 <= which <= 15 and is_secret(row)
 
 
 def in_sixteens(row, signs):
@@ -130,7 +137,7 @@ class House:
         self.settled = 0
 
     def secret(self, which, row):
-        if not 1 <= which <= 15 or not is_secret(row):
+        if not may_be_spelled(which, row):
             return [-1]
         if len(self.text) > 0:
             return [-3]
@@ -159,6 +166,26 @@ class House:
         self.begin_text()
         return [covered.count(True)] + shown
 
+    def held(self):
+        rest = self.text[self.settled:]
+        return [len(rest)] + rest
+
+    def spell(self, which, row):
+        if not may_be_spelled(which, row):
+            return [-1]
+        spellings = spellings_of(which, row)
+        answer = [len(spellings)]
+        for spelling in spellings:
+            answer.append(len(spelling))
+            answer.extend(spelling)
+        return answer
+
+    def whole(self, text):
+        if len(text) > MOST_TEXT_BYTES:
+            return [-7]
+        covered = covered_places(text, self.spellings)
+        return [len(text)] + shown_between(text, covered, 0, len(text))
+
 
 def row_at(calls, place):
     return calls[place + 1:place + 1 + calls[place]]
@@ -174,13 +201,19 @@ def answer_at(house, calls, place):
         return house.feed(row_at(calls, place + 1))
     if call == ENDS:
         return house.ends()
+    if call == HELD:
+        return house.held()
+    if call == SPELL:
+        return house.spell(calls[place + 1], row_at(calls, place + 2))
+    if call == ALL:
+        return house.whole(row_at(calls, place + 1))
     raise NoSuchCall(call)
 
 
 def place_behind(calls, place):
-    if calls[place] == SECRET:
+    if calls[place] in (SECRET, SPELL):
         return place + 3 + calls[place + 2]
-    if calls[place] == FEED:
+    if calls[place] in (FEED, ALL):
         return place + 2 + calls[place + 1]
     return place + 1
 

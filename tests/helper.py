@@ -26,6 +26,19 @@ def ends():
     return [3]
 
 
+def held():
+    return [4]
+
+
+def spell(which, text):
+    return [5, which, len(row(text))] + row(text)
+
+
+def whole(text):
+    """The call that the document calls all."""
+    return [6, len(row(text))] + row(text)
+
+
 def line(*calls):
     return [number for call in calls for number in call]
 
@@ -57,6 +70,19 @@ def last(*calls):
 
 def said(number, text=""):
     return [number] + row(text)
+
+
+def spelled(*spellings):
+    """The answer of spell: how many, then each behind how many bytes it has."""
+    return [len(spellings)] + [number for one in spellings for number in [len(row(one))] + row(one)]
+
+
+def ask_between(calls, between):
+    """What the calls answer with another call before, between and behind them all."""
+    mixed = [between]
+    for call in calls:
+        mixed += [call, between]
+    return ask(*mixed)[1::2]
 
 
 def pieces_of(text, sizes):
@@ -129,6 +155,10 @@ def plain_shown(text, covered):
     return shown
 
 
+def plain_refused(which, text):
+    return which not in range(1, 16) or len(text) not in range(1, 13) or b"*" in text
+
+
 class PlainHouse:
     def __init__(self):
         self.begins()
@@ -143,7 +173,7 @@ class PlainHouse:
         return [one for which, text in self.secrets for one in plain_spellings(which, text)]
 
     def secret(self, which, text):
-        if which not in range(1, 16) or len(text) not in range(1, 13) or b"*" in text:
+        if plain_refused(which, text):
             return [-1]
         if self.text:
             return [-3]
@@ -173,3 +203,15 @@ class PlainHouse:
         self.text = b""
         self.before = b""
         return answer
+
+    def held(self):
+        rest = self.text[plain_settled(self.text, self.spellings()):]
+        return said(len(rest), rest)
+
+    def spell(self, which, text):
+        return [-1] if plain_refused(which, text) else spelled(*plain_spellings(which, text))
+
+    def whole(self, text):
+        if len(text) > 300:
+            return [-7]
+        return said(len(text), plain_shown(text, plain_covered(text, self.spellings())))

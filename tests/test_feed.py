@@ -1,10 +1,8 @@
 import base64
 import itertools
-import random
 import unittest
 
-from helper import PlainHouse, ask, begins, ends, feed, last, line, pieces_of, said, secret, shown_in, split
-from starcover.house import answers
+from helper import ask, ends, feed, last, pieces_of, said, secret, shown_in
 
 
 def byte_by_byte(secrets, text):
@@ -215,52 +213,6 @@ class Length(unittest.TestCase):
     def test_a_new_text_may_have_300_bytes_again(self):
         self.assertEqual(ask(feed("x" * 300), ends(), feed("y" * 300), feed("y"))[1:],
                          [[0], said(0, "y" * 300), [-7]])
-
-
-class AgainstTheWords(unittest.TestCase):
-    """Lines of many kinds, each answer beside what the document's words give by other means."""
-
-    def secret_of(self, source):
-        signs = source.choice((b"ab", b"abc", b"\x1a\xa1\x11\xaa", bytes(range(256))))
-        text = bytes(source.choice(signs) for unused in range(source.choice((1, 2, 2, 3, 3, 4, 5, 12, 0, 13))))
-        return source.choice((1, 1, 1, 3, 6, 7, 8, 9, 15, 0, 16)), text
-
-    def piece_of(self, source, house):
-        known = house.spellings() or [b"ab"]
-        piece = b""
-        for unused in range(source.randrange(5)):
-            spelling = source.choice(known)
-            start = source.choice((0, 0, source.randrange(len(spelling))))
-            stop = source.choice((len(spelling), source.randrange(len(spelling) + 1)))
-            piece += spelling[start:stop] + source.choice((b"", b"", b"x", b"*", b"a"))
-        return piece[:320]
-
-    def line_of(self, source):
-        house = PlainHouse()
-        calls, expected = [], []
-        for place in range(40):
-            kind = "secret" if place < 4 else source.choice(["feed"] * 12 + ["ends", "ends", "secret", "begins"])
-            if kind == "begins" and source.randrange(2):
-                calls.append(begins())
-                expected.append(house.begins())
-            elif kind == "secret":
-                which, text = self.secret_of(source)
-                calls.append(secret(which, text))
-                expected.append(house.secret(which, text))
-            elif kind == "ends":
-                calls.append(ends())
-                expected.append(house.ends())
-            else:
-                piece = self.piece_of(source, house)
-                calls.append(feed(piece))
-                expected.append(house.feed(piece))
-        return calls, expected
-
-    def test_many_lines(self):
-        source = random.Random(20)
-        for number in range(150):
-            calls, expected = self.line_of(source)
-            self.assertEqual(split(answers(line(*calls))), expected, (number, calls))
 
 
 if __name__ == "__main__":

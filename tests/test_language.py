@@ -46,6 +46,7 @@ class Language(unittest.TestCase):
         for node in self.each(ast.FunctionDef):
             self.assertLessEqual(node.end_lineno - node.lineno + 1, 40)
             self.assertEqual(node.decorator_list, [])
+            self.assertNotIn(node.name, vars(builtins))
             self.assertIsNone(node.args.vararg or node.args.kwarg or node.returns)
             for parameter in node.args.args:
                 self.assertFalse(hasattr(builtins, parameter.arg), parameter.arg)
